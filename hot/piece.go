@@ -5,11 +5,8 @@ import (
 
 	"icehouse/api"
 	"icehouse/dev"
-	"icehouse/number"
+	"icehouse/piece"
 )
-
-// headBytes: so many stand ahead of a piece's own.
-const headBytes = 6
 
 // Pack payloads for a tape, from a place on: the bytes, and where each one stands.
 func Pack(at int, ids []int, bodies [][]byte) ([]byte, []api.Piece, api.Errno) {
@@ -29,7 +26,7 @@ func Pack(at int, ids []int, bodies [][]byte) ([]byte, []api.Piece, api.Errno) {
 		case !isSize(p.Size):
 			return nil, nil, api.ErrSize
 		}
-		out = append(append(out, headOf(p)...), b...)
+		out = append(append(out, piece.HeadOf(p)...), b...)
 		l = append(l, p)
 	}
 	return out, l, api.OK
@@ -40,20 +37,15 @@ func Fetch(g api.Geometry, d api.Devices, v int, p api.Piece) ([]byte, api.Errno
 	if !isId(p.Id) || !isSize(p.Size) {
 		return nil, api.ErrRange
 	}
-	b, e := dev.Fetch(g, d, v, p.At, headBytes+p.Size)
+	b, e := dev.Fetch(g, d, v, p.At, piece.Size(p.Size))
 	if e != api.OK {
 		return nil, e
 	}
-	if !bytes.Equal(b[:headBytes], headOf(p)) {
+	if !bytes.Equal(b[:piece.Head], piece.HeadOf(p)) {
 		return nil, api.ErrForm
 	}
-	return b[headBytes:], api.OK
+	return b[piece.Head:], api.OK
 }
 
 // isId: may a version have this number?
 func isId(n int) bool { return n >= 1 && n <= api.MaxNumber }
-
-// headOf a piece: whose it is, and how long.
-func headOf(p api.Piece) []byte {
-	return number.Append(number.Append(nil, p.Id, 4), p.Size, 2)
-}

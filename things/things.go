@@ -14,6 +14,16 @@ func Put(at int, b []byte) Thing {
 	return func(g api.Geometry, d api.Devices) (api.Devices, api.Errno) { return dev.Put(g, d, at, b) }
 }
 
+// Append bytes to a volume.
+func Append(v int, b []byte) Thing {
+	return func(g api.Geometry, d api.Devices) (api.Devices, api.Errno) { return dev.Append(g, d, v, b) }
+}
+
+// Take a volume away.
+func Take(v int) Thing {
+	return func(g api.Geometry, d api.Devices) (api.Devices, api.Errno) { return dev.Take(g, d, v) }
+}
+
 // Do things in their order; what is refused ends it. Devices that died are told as they are then; with any other error they are empty. (Without a thing they are told as they came: give one at least, then it is new memory.)
 func Do(g api.Geometry, d api.Devices, l ...Thing) (api.Devices, api.Errno) {
 	for _, thing := range l {

@@ -72,3 +72,22 @@ func TestDeadAreNew(t *testing.T) {
 		t.Error("they share memory with those that were given")
 	}
 }
+
+// TestTape: bytes at the end of a volume, and a volume that is taken away; each is one thing.
+func TestTape(t *testing.T) {
+	g := small()
+	got, e := Do(g, armed(t, 9), Append(0, []byte("ab")), Append(0, []byte("c")), dev.Mark)
+	if e != api.OK || got.Fuel != 6 || len(got.Volumes) != 1 || string(got.Volumes[0].Data) != "abc" || got.Volumes[0].Synced != 3 {
+		t.Errorf("%v, %+v", e, got.Volumes)
+	}
+	got, e = Do(g, got, Take(0))
+	if e != api.OK || got.Fuel != 5 || !got.Volumes[0].Gone {
+		t.Errorf("%v, %+v", e, got.Volumes)
+	}
+	if _, e = Do(g, got, Take(0)); e != api.ErrNone {
+		t.Errorf("taken twice: %v", e)
+	}
+	if got, e = Do(g, armed(t, 1), Append(0, []byte("ab")), dev.Mark); e != api.ErrDown || string(got.Volumes[0].Data) != "ab" || got.Volumes[0].Synced != 0 {
+		t.Errorf("%v, %+v", e, got.Volumes)
+	}
+}

@@ -4,11 +4,9 @@ import (
 	"slices"
 
 	"icehouse/api"
+	"icehouse/piece"
 	"icehouse/state"
 )
-
-// head of a piece on tape: so many bytes ahead of a version's own.
-const head = 6
 
 // Live bytes of each volume.
 func Live(s api.State) ([]int, api.Errno) {
@@ -18,7 +16,7 @@ func Live(s api.State) ([]int, api.Errno) {
 	l := make([]int, api.MaxVolumes)
 	for _, v := range s.Versions {
 		if onTape(v) {
-			l[v.Volume] += v.Size + head
+			l[v.Volume] += piece.Size(v.Size)
 		}
 	}
 	return l, api.OK
